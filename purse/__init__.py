@@ -1,0 +1,1 @@
+"""Equalpurse: a town's coins dealt to works by equal purses."""
