@@ -210,6 +210,18 @@ class Language(unittest.TestCase):
 
         self.of_each_file(check)
 
+    def test_no_local_is_called_like_a_class_or_an_import(self):
+        def check(path, text, tree):
+            taken = {node.name for node in tree.body if isinstance(node, ast.ClassDef)}
+            taken |= {alias.asname or alias.name for node in own_imports(tree) for alias in node.names}
+            for node in ast.walk(tree):
+                if isinstance(node, ast.arg):
+                    self.assertNotIn(node.arg, taken)
+                if isinstance(node, ast.Name) and isinstance(node.ctx, ast.Store):
+                    self.assertNotIn(node.id, taken)
+
+        self.of_each_file(check)
+
     def test_methods(self):
         own = set()
         for path in package_files():

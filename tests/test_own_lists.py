@@ -3,8 +3,13 @@
 import copy
 import unittest
 
+from purse.choosing import bought_by, choose, left_of, works_of
+from purse.errors import NoPaper
 from purse.grains import equal_purse, grains_of, together
+from purse.groups import parties_of, wronged
 from purse.levels import gathered, level_for, paid_at
+from purse.offers import next_of, offers_of
+from purse.papers import first_wrong, paper_of
 from purse.towns import common_of, cost_of, is_town, purses_of, wanters_of
 
 
@@ -28,13 +33,51 @@ def calls():
         (gathered, [[9, 1, 5], 4]),
         (level_for, [[9, 1, 5], 7]),
         (level_for, [[9, 1, 5], 16]),
+    ] + calls_of_choosing(costs, wishes)
+
+
+def calls_of_choosing(costs, wishes):
+    purses = purses_of(100, costs, wishes)
+    steps = choose(purses, costs, wishes)
+    return [
+        (offers_of, [purses, costs, wishes, []]),
+        (offers_of, [purses, costs, wishes, [2, 0]]),
+        (next_of, [[5, None, 3, 3]]),
+        (next_of, [[None, None]]),
+        (choose, [purses, costs, wishes]),
+        (choose, [purses, [], [[]] * 4]),
+        (works_of, [steps]),
+        (works_of, [[]]),
+        (left_of, [purses, steps]),
+        (left_of, [purses, []]),
+        (bought_by, [wishes, steps, 3]),
+        (bought_by, [wishes, [], 2]),
+        (paper_of, [[0] * 4, costs, wishes, 1]),
+        (first_wrong, [purses, costs, wishes, steps]),
+        (first_wrong, [purses, costs, wishes, steps[::-1]]),
+        (first_wrong, [purses, costs, wishes, []]),
+        (wronged, [100, costs, wishes, []]),
+        (wronged, [100, costs, wishes, [0]]),
+        (wronged, [100, costs, wishes, [0, 1, 2]]),
+        (parties_of, [costs, wishes]),
+        (parties_of, [[], [[]]]),
     ]
 
 
+def lists_in(value):
+    if not isinstance(value, (list, tuple)):
+        return []
+    found = [value] if isinstance(value, list) else []
+    for inner in value:
+        found.extend(lists_in(inner))
+    return found
+
+
 def spoil(value):
-    if isinstance(value, list):
+    if isinstance(value, (list, tuple)):
         for inner in value:
             spoil(inner)
+    if isinstance(value, list):
         value.reverse()
         value.append(77)
         value[0] = 99
@@ -85,6 +128,33 @@ class OwnLists(unittest.TestCase):
 
         self.of_each_call(check)
 
+    def test_every_list_told_is_a_new_one(self):
+        def check(function, handed):
+            ahead = [id(inner) for inner in lists_in(handed)]
+            first = function(*handed)
+            second = function(*handed)
+            told = [id(inner) for inner in lists_in(first) + lists_in(second)]
+            self.assertEqual(len(told), len(set(told)))
+            self.assertEqual(set(told) & set(ahead), set())
+
+        self.of_each_call(check)
+
+    def test_a_refusal_changes_nothing(self):
+        purses, costs, wishes = [20, 20], [6], [[0], [0]]
+        with self.assertRaises(NoPaper):
+            paper_of(purses, costs, wishes, 0)
+        self.assertEqual((purses, costs, wishes), ([20, 20], [6], [[0], [0]]))
+
+    def test_spoilt_steps_change_no_later_choosing(self):
+        purses, costs, wishes = [43200] * 3, [30, 50, 20], [[0, 1], [2], [0, 1, 2]]
+        steps = choose(purses, costs, wishes)
+        kept = copy.deepcopy(steps)
+        left = left_of(purses, steps)
+        spoil(steps)
+        self.assertEqual(left, [23760, 30240, 10800])
+        self.assertEqual(choose(purses, costs, wishes), kept)
+        self.assertIsNone(first_wrong(purses, costs, wishes, kept))
+
     def test_a_changed_argument_is_looked_at_anew(self):
         purses = [9, 1, 5]
         self.assertEqual(level_for(purses, 15), 9)
@@ -94,6 +164,13 @@ class OwnLists(unittest.TestCase):
         self.assertEqual(wanters_of(wishes, 1), [1])
         wishes[0].append(1)
         self.assertEqual(wanters_of(wishes, 1), [0, 1])
+        self.assertEqual(parties_of([1, 1], wishes), [[0, 1]])
+        wishes[0].pop()
+        self.assertEqual(parties_of([1, 1], wishes), [[0], [1]])
+        steps = choose([20, 20], [6, 1], wishes)
+        self.assertEqual(first_wrong([20, 20], [6, 1], wishes, steps), None)
+        steps[0][2][1] += 1
+        self.assertEqual(first_wrong([20, 20], [6, 1], wishes, steps), 0)
 
 
 if __name__ == "__main__":
