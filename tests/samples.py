@@ -6,6 +6,7 @@ Nothing here draws from the program, so that a fault there is not repeated here.
 import itertools
 import math
 import random
+import re
 from fractions import Fraction
 
 MOST = 10 ** 12
@@ -108,3 +109,109 @@ def slow_steps(purses, costs, wishes):
         (work, level * grains, [part * grains for part in paid])
         for work, level, paid in slow_choose(coins, costs, wishes)
     ]
+
+
+def slow_fill(coins, costs, wishes, works):
+    """The works filled in, each looked for among all works anew; the works handed in cost no more than the coins."""
+    wanters = [sum(work in wanted for wanted in wishes) for work in range(len(costs))]
+    done = list(works)
+    while True:
+        over = coins - sum(costs[work] for work in done)
+        further = [
+            work for work in range(len(costs)) if work not in done and wanters[work] > 0 and costs[work] <= over
+        ]
+        if not further:
+            return done[len(works):]
+        most = [work for work in further if wanters[work] == max(wanters[other] for other in further)]
+        least = [work for work in most if costs[work] == min(costs[other] for other in most)]
+        done.append(least[0])
+
+
+def place_of(rows, name):
+    return [row[0] for row in rows].index(name)
+
+
+class SlowChest:
+    """A chest in fractions of coins. A refusal is told by its name, and nothing is done then."""
+
+    def __init__(self):
+        self.people, self.plans = [], []
+        self.rest = self.gifts = self.costs = 0
+
+    def told(self):
+        works = [(plan, cost, [row[0] for row in self.people if plan in row[2]]) for plan, cost in self.plans]
+        return [(name, coins) for name, coins, wants in self.people], works, self.rest, self.gifts, self.costs
+
+    def why_not(self, deed, words):
+        people, plans = [row[0] for row in self.people], [row[0] for row in self.plans]
+        if deed in ("enrol", "propose"):
+            there, most = (people, 20) if deed == "enrol" else (plans, 12)
+            if re.fullmatch("[a-z]{1,8}", words[0]) is None:
+                return "NoName"
+            if words[0] in there:
+                return "Twice"
+            if deed == "propose" and words[1] not in range(1, 10 ** 9 + 1):
+                return "TooMuch"
+            return "Full" if len(there) == most else None
+        if deed in ("leave", "want", "unwant", "purse") and words[0] not in people:
+            return "NoVoter"
+        if deed in ("withdraw", "want", "unwant") and words[-1] not in plans:
+            return "NoWork"
+        if deed == "give" and words[0] not in range(10 ** 9 + 1):
+            return "TooMuch"
+        return None
+
+    def do(self, deed, words=()):
+        """What the deed tells, or the name of its refusal."""
+        return self.why_not(deed, words) or getattr(self, deed)(*words)
+
+    def enrol(self, name):
+        self.people.append([name, 0, set()])
+
+    def leave(self, name):
+        self.rest += self.people.pop(place_of(self.people, name))[1]
+
+    def give(self, coins):
+        self.gifts += coins
+        self.rest += coins
+        part = self.rest // len(self.people) if self.people else 0
+        for row in self.people:
+            row[1] += part
+            self.rest -= part
+
+    def propose(self, work, cost):
+        self.plans.append((work, cost))
+
+    def withdraw(self, work):
+        self.plans.pop(place_of(self.plans, work))
+        for row in self.people:
+            row[2].discard(work)
+
+    def want(self, voter, work):
+        self.people[place_of(self.people, voter)][2].add(work)
+
+    def unwant(self, voter, work):
+        self.people[place_of(self.people, voter)][2].discard(work)
+
+    def purse(self, voter):
+        return self.people[place_of(self.people, voter)][1]
+
+    def close(self):
+        if not self.people or not self.plans:
+            return [], 1
+        plans, costs = zip(*self.plans)
+        wishes = [[place for place, plan in enumerate(plans) if plan in row[2]] for row in self.people]
+        grains = grains_for(costs, wishes)
+        told, left = [], [Fraction(row[1]) for row in self.people]
+        for place, level, paid in slow_choose(left, costs, wishes):
+            rows = [(row[0], part * grains) for row, part in zip(self.people, paid) if part > 0]
+            told.append((plans[place], costs[place], rows))
+            left = [coins - part for coins, part in zip(left, paid)]
+        for name, cost, rows in told:
+            self.costs += cost
+            self.withdraw(name)
+        for row, coins in zip(self.people, left):
+            row[1] = math.floor(coins)
+        # A fraction that stayed here would be unlike every whole number.
+        self.rest += sum(coins - math.floor(coins) for coins in left)
+        return told, grains

@@ -44,6 +44,16 @@ EXPRESSIONS = (
     ast.FormattedValue, ast.JoinedStr, ast.Constant, ast.Attribute, ast.Subscript, ast.Name, ast.List,
     ast.Tuple, ast.Slice,
 )
+# Walked on the spot alone: the functions and the methods, and the calls in which they may stand.
+WALKED = set("zip enumerate reversed range".split())
+WALKED_METHODS = set("items keys values".split())
+WALKERS = set("list tuple dict sorted sum any all enumerate zip min max".split())
+KEYWORDS = {
+    "sorted": {"key", "reverse"}, "min": {"key", "default"}, "max": {"key", "default"}, "sum": {"start"},
+    "enumerate": {"start"}, "zip": {"strict"},
+}
+# Names of Python's own values that a value of an object may bear all the same.
+VALUE_NAMES = set("count index title find get join lower upper split strip copy add".split())
 TOP = (ast.FunctionDef, ast.ClassDef, ast.ImportFrom, ast.Assign)
 
 
@@ -77,6 +87,44 @@ def top_names(tree):
         elif isinstance(node, ast.Assign):
             names.extend(target.id for target in node.targets)
     return names
+
+
+def python_names():
+    return set().union(*[dir(kind) for kind in (str, int, list, tuple, dict, set, frozenset, bytes)])
+
+
+def method_names(tree):
+    classes = [node for node in ast.walk(tree) if isinstance(node, ast.ClassDef)]
+    return [inner.name for node in classes for inner in node.body if isinstance(inner, ast.FunctionDef)]
+
+
+def value_names(tree):
+    nodes = [node for node in ast.walk(tree) if isinstance(node, ast.Attribute)]
+    return [node.attr for node in nodes if isinstance(node.ctx, ast.Store)]
+
+
+def name_of_call(node):
+    return node.func.id if isinstance(node.func, ast.Name) else None
+
+
+def is_walked(node):
+    """Is it a call whose answer is to be walked on the spot?"""
+    if not isinstance(node, ast.Call):
+        return False
+    if isinstance(node.func, ast.Attribute):
+        return node.func.attr in WALKED_METHODS
+    return name_of_call(node) in WALKED
+
+
+def walked_rightly(tree):
+    """What stands where such an answer may stand."""
+    places = []
+    for node in ast.walk(tree):
+        if isinstance(node, (ast.For, ast.comprehension)):
+            places.append(node.iter)
+        elif isinstance(node, ast.Call) and name_of_call(node) in WALKERS:
+            places.extend(node.args[:1])
+    return places
 
 
 def own_imports(tree):
@@ -225,9 +273,7 @@ class Language(unittest.TestCase):
     def test_methods(self):
         own = set()
         for path in package_files():
-            for node in ast.walk(ast.parse(path.read_text(encoding="utf-8"))):
-                if isinstance(node, ast.ClassDef):
-                    own |= {inner.name for inner in node.body if isinstance(inner, ast.FunctionDef)}
+            own |= set(method_names(ast.parse(path.read_text(encoding="utf-8"))))
 
         def check(path, text, tree):
             for node in ast.walk(tree):
@@ -235,6 +281,74 @@ class Language(unittest.TestCase):
                     self.assertNotIn(node.attr, {"format", "format_map", "mro"})
                 if isinstance(node, ast.Call) and isinstance(node.func, ast.Attribute):
                     self.assertIn(node.func.attr, METHODS | own)
+
+        self.of_each_file(check)
+
+    def test_values(self):
+        trees = [ast.parse(path.read_text(encoding="utf-8")) for path in package_files()]
+        methods = [name for tree in trees for name in method_names(tree)]
+        values = [name for tree in trees for name in value_names(tree)]
+        self.assertNotEqual(values, [])
+        self.assertEqual(sorted(set(methods) & set(values)), [])
+        self.assertEqual(sorted(set(values) & (python_names() - VALUE_NAMES)), [])
+        self.assertEqual(sorted(set(methods) & (python_names() - METHODS - UNDERSCORED - {"add", "discard"})), [])
+
+        def check(path, text, tree):
+            for node in ast.walk(tree):
+                if isinstance(node, ast.ClassDef):
+                    self.assertEqual(len(method_names(node)), len(set(method_names(node))))
+                if isinstance(node, ast.Attribute) and isinstance(node.ctx, ast.Load):
+                    self.assertIn(node.attr, METHODS | set(methods) | set(values))
+
+        self.of_each_file(check)
+
+    def test_values_are_set_by_their_own_object(self):
+        def check(path, text, tree):
+            for node in ast.walk(tree):
+                if isinstance(node, ast.Attribute) and isinstance(node.ctx, ast.Store):
+                    self.assertIsInstance(node.value, ast.Name)
+                    self.assertEqual(node.value.id, "self")
+
+        self.of_each_file(check)
+
+    def test_methods_are_called_where_they_stand(self):
+        methods = set()
+        for path in package_files():
+            methods |= set(method_names(ast.parse(path.read_text(encoding="utf-8"))))
+
+        def check(path, text, tree):
+            called = [node.func for node in ast.walk(tree) if isinstance(node, ast.Call)]
+            for node in ast.walk(tree):
+                if isinstance(node, ast.Attribute) and node.attr in METHODS | methods:
+                    self.assertIn(node, called)
+
+        self.of_each_file(check)
+
+    def test_walked_at_once(self):
+        def check(path, text, tree):
+            places = walked_rightly(tree)
+            for node in ast.walk(tree):
+                if is_walked(node):
+                    self.assertIn(node, places, ast.dump(node))
+
+        self.of_each_file(check)
+
+    def test_keywords(self):
+        def check(path, text, tree):
+            for node in ast.walk(tree):
+                if isinstance(node, ast.Call) and node.keywords:
+                    allowed = KEYWORDS.get(name_of_call(node), set())
+                    self.assertEqual([word.arg for word in node.keywords if word.arg not in allowed], [])
+
+        self.of_each_file(check)
+
+    def test_f_strings_hold_plain_names(self):
+        def check(path, text, tree):
+            for node in ast.walk(tree):
+                if isinstance(node, ast.FormattedValue):
+                    self.assertIsInstance(node.value, ast.Name)
+                    self.assertIn(node.conversion, (-1, ord("r")))
+                    self.assertIsNone(node.format_spec)
 
         self.of_each_file(check)
 

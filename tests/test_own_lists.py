@@ -3,13 +3,17 @@
 import copy
 import unittest
 
+from purse.chests import Chest
 from purse.choosing import bought_by, choose, left_of, works_of
-from purse.errors import NoPaper
+from purse.desk import Desk
+from purse.errors import NoPaper, NoRow, PurseError, TooMuch
+from purse.filling import fill, plan_of
 from purse.grains import equal_purse, grains_of, together
 from purse.groups import parties_of, wronged
 from purse.levels import gathered, level_for, paid_at
 from purse.offers import next_of, offers_of
 from purse.papers import first_wrong, paper_of
+from purse.texts import read_number, read_words
 from purse.towns import common_of, cost_of, is_town, purses_of, wanters_of
 
 
@@ -33,7 +37,10 @@ def calls():
         (gathered, [[9, 1, 5], 4]),
         (level_for, [[9, 1, 5], 7]),
         (level_for, [[9, 1, 5], 16]),
-    ] + calls_of_choosing(costs, wishes)
+        (read_words, ["propose park 30"]),
+        (read_words, ["pot"]),
+        (read_number, ["30"]),
+    ] + calls_of_choosing(costs, wishes) + calls_of_filling(costs, wishes)
 
 
 def calls_of_choosing(costs, wishes):
@@ -61,6 +68,20 @@ def calls_of_choosing(costs, wishes):
         (wronged, [100, costs, wishes, [0, 1, 2]]),
         (parties_of, [costs, wishes]),
         (parties_of, [[], [[]]]),
+    ]
+
+
+def calls_of_filling(costs, wishes):
+    return [
+        (fill, [100, costs, wishes, []]),
+        (fill, [100, costs, wishes, [2, 0]]),
+        (fill, [49, costs, wishes, [2]]),
+        (fill, [100, costs, wishes, [2, 1, 0]]),
+        (fill, [0, [], [[]], []]),
+        (plan_of, [100, costs, wishes]),
+        (plan_of, [49, costs, wishes]),
+        (plan_of, [0, costs, wishes]),
+        (plan_of, [7, [], [[], []]]),
     ]
 
 
@@ -144,6 +165,10 @@ class OwnLists(unittest.TestCase):
         with self.assertRaises(NoPaper):
             paper_of(purses, costs, wishes, 0)
         self.assertEqual((purses, costs, wishes), ([20, 20], [6], [[0], [0]]))
+        works = [0]
+        with self.assertRaises(TooMuch):
+            fill(5, costs, wishes, works)
+        self.assertEqual((costs, wishes, works), ([6], [[0], [0]], [0]))
 
     def test_spoilt_steps_change_no_later_choosing(self):
         purses, costs, wishes = [43200] * 3, [30, 50, 20], [[0, 1], [2], [0, 1, 2]]
@@ -171,6 +196,111 @@ class OwnLists(unittest.TestCase):
         self.assertEqual(first_wrong([20, 20], [6, 1], wishes, steps), None)
         steps[0][2][1] += 1
         self.assertEqual(first_wrong([20, 20], [6, 1], wishes, steps), 0)
+
+
+def year_of_chest():
+    chest = Chest()
+    for name in ("ann", "bob", "cid"):
+        chest.enrol(name)
+    for work, cost in (("park", 30), ("road", 50), ("well", 20)):
+        chest.propose(work, cost)
+    for voter, work in (("ann", "park"), ("ann", "road"), ("bob", "well"), ("cid", "park"), ("cid", "well")):
+        chest.want(voter, work)
+    chest.give(100)
+    return chest
+
+
+def told(chest):
+    return chest.voters(), chest.works(), chest.pot(), chest.given(), chest.spent()
+
+
+class KeptByChests(unittest.TestCase):
+    def spoil_all(self, chest):
+        for value in told(chest):
+            spoil(value)
+
+    def test_spoilt_answers_change_nothing_told_later(self):
+        for chest in (Chest(), year_of_chest()):
+            kept = copy.deepcopy(told(chest))
+            self.spoil_all(chest)
+            self.assertEqual(told(chest), kept)
+
+    def test_spoilt_answers_change_no_deed(self):
+        deeds = [
+            ("want", "bob", "park"), ("unwant", "ann", "park"), ("give", 7), ("close",), ("propose", "hall", 3),
+            ("want", "cid", "hall"), ("leave", "bob"), ("enrol", "bob"), ("close",), ("withdraw", "road"), ("close",),
+        ]
+        spoilt, other = year_of_chest(), year_of_chest()
+        for deed, *words in deeds:
+            self.spoil_all(spoilt)
+            answer = getattr(spoilt, deed)(*words)
+            self.assertEqual(answer, getattr(other, deed)(*words))
+            spoil(answer)
+            self.assertEqual(told(spoilt), told(other))
+
+    def test_a_spoilt_closing(self):
+        chest, other = year_of_chest(), year_of_chest()
+        spoil(chest.close())
+        other.close()
+        self.assertEqual(told(chest), told(other))
+        self.assertEqual(chest.close(), other.close())
+        # Where nothing can be done the list is the asker's own too.
+        for chest in (Chest(), year_of_chest()):
+            for work, cost, wanters in chest.works():
+                chest.withdraw(work)
+            spoil(chest.close())
+            self.assertEqual(chest.close(), ([], 1))
+            self.assertEqual(Chest().close(), ([], 1))
+
+    def test_later_deeds_change_nothing_told_ahead(self):
+        chest = year_of_chest()
+        ahead = told(chest)
+        kept = copy.deepcopy(ahead)
+        chest.want("bob", "park")
+        chest.unwant("ann", "road")
+        chest.give(50)
+        closing = chest.close()
+        closed = copy.deepcopy(closing)
+        self.assertEqual(ahead, kept)
+        chest.leave("ann")
+        chest.enrol("ann")
+        chest.withdraw("road")
+        chest.propose("park", 5)
+        chest.want("cid", "park")
+        chest.close()
+        self.assertEqual(ahead, kept)
+        self.assertEqual(closing, closed)
+
+    def test_every_list_told_is_a_new_one(self):
+        chest = year_of_chest()
+        answers = [told(chest), told(chest), chest.close(), chest.close(), told(chest), chest.close(), Chest().close()]
+        found = [id(inner) for inner in lists_in(answers)]
+        self.assertEqual(len(found), len(set(found)))
+
+    def test_asking_changes_nothing(self):
+        chest = year_of_chest()
+        first = told(chest)
+        for turn in range(3):
+            self.assertEqual(told(chest), first)
+
+    def test_asking_a_desk_changes_nothing(self):
+        desk = Desk()
+        for row in ("enrol ann", "give 7", "propose park 5", "want ann park"):
+            desk.say(row)
+        rows = ["works", "pot", "given", "spent", "purse ann"]
+        first = [desk.say(row) for row in rows]
+        for row in ("purse zed", "works now", "give x", "propose park 1"):
+            with self.assertRaises(PurseError):
+                desk.say(row)
+        self.assertEqual([desk.say(row) for row in rows], first)
+
+    def test_spoilt_words_change_nothing_read_later(self):
+        words = read_words("give 5")
+        spoil(words)
+        self.assertEqual(read_words("give 5"), ["give", "5"])
+        with self.assertRaises(NoRow):
+            read_words("give  5")
+        self.assertEqual(read_words("give 5"), ["give", "5"])
 
 
 if __name__ == "__main__":

@@ -1,9 +1,12 @@
-"""Promise 3, as far as it speaks of choosing, looking through, groups and parties."""
+"""Promise 3: what holds over the whole program."""
 
 import itertools
+import random
 import unittest
 
+from purse.chests import Chest
 from purse.choosing import bought_by, choose, left_of, works_of
+from purse.filling import plan_of
 from purse.groups import parties_of, wronged
 from purse.papers import first_wrong
 from samples import coin_purses, equal_purses, grains_for, small_towns, some_purses, some_towns
@@ -140,6 +143,63 @@ class Alike(unittest.TestCase):
             choose(coin_purses([5] * 4, costs, wishes), costs, wishes),
             choose(equal_purses(20, costs, wishes), costs, wishes),
         )
+
+
+class Coins(unittest.TestCase):
+    def test_a_plan_spends_or_leaves_every_coin(self):
+        for coins, costs, wishes in list(small_towns()) + some_towns(150, seed=45):
+            steps, filled, over = plan_of(coins, costs, wishes)
+            done = [work for work, level, paid in steps] + filled
+            self.assertEqual(len(done), len(set(done)))
+            self.assertEqual(sum(costs[work] for work in done) + over, coins)
+
+    def some_wishes(self, rng, chest):
+        for work, cost, wanters in chest.works():
+            for voter, purse in chest.voters():
+                if rng.random() < 0.6:
+                    chest.want(voter, work)
+
+    def close(self, chest):
+        """Closes, and looks after each grain of each voter."""
+        ahead, pot, spent = dict(chest.voters()), chest.pot(), chest.spent()
+        rows, grains = chest.close()
+        below = 0
+        for voter, purse in chest.voters():
+            paid = sum(part for work, cost, payers in rows for payer, part in payers if payer == voter)
+            left = ahead[voter] * grains - paid
+            self.assertGreaterEqual(left, 0)
+            self.assertEqual(purse, left // grains)
+            below += left - purse * grains
+        self.assertEqual(below, (chest.pot() - pot) * grains)
+        self.assertEqual(chest.spent() - spent, sum(cost for work, cost, payers in rows))
+        for work, cost, payers in rows:
+            self.assertEqual(sum(part for payer, part in payers), cost * grains)
+        return below
+
+    def test_no_coin_is_lost_from_year_to_year(self):
+        rng = random.Random(46)
+        chest, given, below = Chest(), 0, 0
+        names = ["ann", "bob", "cid", "dan", "eve", "fay", "gus"]
+        for year in range(120):
+            there = [name for name, purse in chest.voters()]
+            name = rng.choice(names)
+            if name not in there:
+                chest.enrol(name)
+            elif year % 3 == 0:
+                chest.leave(name)
+            for work in rng.sample(names, 3):
+                if work not in [row[0] for row in chest.works()] and len(chest.works()) < 5:
+                    chest.propose(work, rng.randrange(1, 40))
+            self.some_wishes(rng, chest)
+            coins = rng.choice([0, 5, 30, 60])
+            chest.give(coins)
+            given += coins
+            below += self.close(chest)
+            purses = sum(purse for name, purse in chest.voters())
+            self.assertEqual([chest.given(), chest.spent() + purses + chest.pot()], [given, given])
+        # Some years left grains below a coin, or nothing would be tried here.
+        self.assertGreater(below, 0)
+        self.assertGreater(chest.spent(), 500)
 
 
 if __name__ == "__main__":
